@@ -1,0 +1,1 @@
+"""Finebook: jobs with ends and fines, one a tick."""
